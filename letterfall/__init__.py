@@ -1,0 +1,1 @@
+"""Letters: fonts, what's read which way, and how dark each pixel is."""

@@ -1,0 +1,47 @@
+"""The calls: each answers a list of whole numbers, or a refusal's number alone."""
+
+from letterfall.fonttext import read_font
+from letterfall.refusals import NoSuchLetter, OutOfRange, Refusal
+
+MOST_BYTE = 255
+MOST_HANDED_OVER = 4294967295
+NO_MARK = -1
+
+
+def need_range(number, least, most):
+    if number < least or number > most:
+        raise OutOfRange()
+
+
+def told_font(face):
+    for byte in face:
+        need_range(byte, 0, MOST_BYTE)
+    return read_font(face)
+
+
+def told_letter(k, face):
+    need_range(k, 0, MOST_HANDED_OVER)
+    told = told_font(face)
+    if k >= len(told.letters):
+        raise NoSuchLetter()
+    return told.letters[k]
+
+
+def font(face):
+    """How many letters; U, A, D, G; how many characters, pairs, joins."""
+    try:
+        told = told_font(face)
+    except Refusal as e:
+        return [e.answer]
+    counts = [len(told.chars), len(told.pairs), len(told.joins)]
+    return [len(told.letters), told.units, told.up, told.down, told.gap] + counts
+
+
+def letter(k, face):
+    """0; the width of letter k, how many lines its outline has, its kind as a mark or -1."""
+    try:
+        found = told_letter(k, face)
+    except Refusal as e:
+        return [e.answer]
+    kind = NO_MARK if found.mark is None else found.mark[0]
+    return [0, found.width, len(found.outline), kind]
