@@ -1,5 +1,6 @@
 """Reads a font's text strictly: every line is right, or the first wrong one is told."""
 
+from letterfall.codepoints import MOST_CODE_POINT, is_code_point
 from letterfall.faces import Font, Letter
 from letterfall.refusals import WrongFont
 
@@ -12,9 +13,6 @@ MOST_UNITS = 16384
 LEAST_NUMBER = -32768
 MOST_NUMBER = 32767
 MOST_KIND = 15
-MOST_CODE_POINT = 1114111
-FIRST_SURROGATE = 55296
-LAST_SURROGATE = 57343
 # No code point's number has more digits; Python itself refuses to read very long ones.
 MOST_DIGITS = 7
 
@@ -68,7 +66,7 @@ def plain_numbers(words):
 
 def code_point(word):
     number = whole_number(word, 0, MOST_CODE_POINT)
-    if FIRST_SURROGATE <= number <= LAST_SURROGATE:
+    if not is_code_point(number):
         raise WrongLine()
     return number
 

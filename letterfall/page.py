@@ -1,15 +1,23 @@
 """The calls: each answers a list of whole numbers, or a refusal's number alone."""
 
+from letterfall.codepoints import is_code_point, is_text
 from letterfall.fonttext import read_font
 from letterfall.refusals import NoSuchLetter, OutOfRange, Refusal
+from letterfall.ways import levels_of
 
 MOST_BYTE = 255
 MOST_HANDED_OVER = 4294967295
+MOST_SIDE = 2
 NO_MARK = -1
 
 
 def need_range(number, least, most):
     if number < least or number > most:
+        raise OutOfRange()
+
+
+def need_text(text):
+    if not is_text(text):
         raise OutOfRange()
 
 
@@ -45,3 +53,24 @@ def letter(k, face):
         return [e.answer]
     kind = NO_MARK if found.mark is None else found.mark[0]
     return [0, found.width, len(found.outline), kind]
+
+
+def char(c, face):
+    """The number of code point c's letter; 0 where there's none."""
+    try:
+        if not is_code_point(c):
+            raise OutOfRange()
+        told = told_font(face)
+    except Refusal as e:
+        return [e.answer]
+    return [told.chars.get(c, 0)]
+
+
+def levels(side, text):
+    """How many characters; each one's level."""
+    try:
+        need_range(side, 0, MOST_SIDE)
+        need_text(text)
+    except Refusal as e:
+        return [e.answer]
+    return [len(text)] + levels_of(text, side)

@@ -51,3 +51,36 @@ def names(many):
     for number in range(many):
         found.append(signs[number // 676] + signs[number // 26 % 26] + signs[number % 26])
     return found
+
+
+# One character of each class, and of some that have a letter's class but look unlike.
+CODES = {"L": 97, "R": 1488, "A": 1576, "N": 49, "M": 769, "O": 33, "LI": 8294, "RI": 8295, "FI": 8296, "PI": 8297,
+         "B": 10}
+
+
+def codes(words):
+    """A text, a character for each word: the name of its class."""
+    return [CODES[word] for word in words.split()]
+
+
+def all_of(names, longest):
+    """Every list of these names, of any length up to the longest."""
+    found = [[]]
+    last = [[]]
+    for length in range(longest):
+        last = [begun + [name] for begun in last for name in names]
+        found.extend(last)
+    return found
+
+
+def mixed(names, many, length):
+    """So many lists of these names, so long each, mixed up but the same at any time."""
+    seed = 12345
+    found = []
+    for number in range(many):
+        one = []
+        for place in range(length):
+            seed = (seed * 1103515245 + 12345) % 2 ** 31
+            one.append(names[(seed >> 12) % len(names)])
+        found.append(one)
+    return found
