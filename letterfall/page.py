@@ -3,11 +3,15 @@
 from letterfall.codepoints import is_code_point, is_text
 from letterfall.fonttext import read_font
 from letterfall.refusals import NoSuchLetter, OutOfRange, Refusal
+from letterfall.seen import text_seen
+from letterfall.shaping import shaped
 from letterfall.ways import levels_of
 
 MOST_BYTE = 255
 MOST_HANDED_OVER = 4294967295
 MOST_SIDE = 2
+MOST_SIZE = 65536
+LINE_FEED = 10
 NO_MARK = -1
 
 
@@ -18,6 +22,14 @@ def need_range(number, least, most):
 
 def need_text(text):
     if not is_text(text):
+        raise OutOfRange()
+
+
+def need_stretch(start, to, text):
+    """Needs a stretch of one paragraph: a line feed may only be its last character."""
+    need_range(to, 0, len(text))
+    need_range(start, 0, to)
+    if LINE_FEED in text[start:to][:-1]:
         raise OutOfRange()
 
 
@@ -74,3 +86,26 @@ def levels(side, text):
     except Refusal as e:
         return [e.answer]
     return [len(text)] + levels_of(text, side)
+
+
+def order(side, text):
+    """How many characters; their places in the order seen, paragraph by paragraph."""
+    try:
+        need_range(side, 0, MOST_SIDE)
+        need_text(text)
+    except Refusal as e:
+        return [e.answer]
+    return [len(text)] + text_seen(text, side)
+
+
+def shape(size, side, start, to, face, text):
+    """How many letters a stretch has; number, place, x, y, room, level of each as seen; x behind the last."""
+    try:
+        need_range(size, 1, MOST_SIZE)
+        need_range(side, 0, MOST_SIDE)
+        need_text(text)
+        need_stretch(start, to, text)
+        told = told_font(face)
+    except Refusal as e:
+        return [e.answer]
+    return shaped(told, size, side, start, to, text)
