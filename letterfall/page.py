@@ -1,7 +1,9 @@
 """The calls: each answers a list of whole numbers, or a refusal's number alone."""
 
 from letterfall.codepoints import is_code_point, is_text
+from letterfall.darkness import outline_darkness
 from letterfall.fonttext import read_font
+from letterfall.lineends import line_ends
 from letterfall.refusals import NoSuchLetter, OutOfRange, Refusal
 from letterfall.seen import text_seen
 from letterfall.shaping import shaped
@@ -11,6 +13,10 @@ MOST_BYTE = 255
 MOST_HANDED_OVER = 4294967295
 MOST_SIDE = 2
 MOST_SIZE = 65536
+MOST_HALVINGS = 4
+MOST_LENGTH = 33554432
+MOST_PIXELS_AWAY = 1024
+MOST_PIXELS_WIDE = 64
 LINE_FEED = 10
 NO_MARK = -1
 
@@ -39,12 +45,10 @@ def told_font(face):
     return read_font(face)
 
 
-def told_letter(k, face):
-    need_range(k, 0, MOST_HANDED_OVER)
-    told = told_font(face)
-    if k >= len(told.letters):
+def letter_in(told, number):
+    if number >= len(told.letters):
         raise NoSuchLetter()
-    return told.letters[k]
+    return told.letters[number]
 
 
 def font(face):
@@ -60,7 +64,8 @@ def font(face):
 def letter(k, face):
     """0; the width of letter k, how many lines its outline has, its kind as a mark or -1."""
     try:
-        found = told_letter(k, face)
+        need_range(k, 0, MOST_HANDED_OVER)
+        found = letter_in(told_font(face), k)
     except Refusal as e:
         return [e.answer]
     kind = NO_MARK if found.mark is None else found.mark[0]
@@ -109,3 +114,31 @@ def shape(size, side, start, to, face, text):
     except Refusal as e:
         return [e.answer]
     return shaped(told, size, side, start, to, text)
+
+
+def breaks(text):
+    """How many characters; for each 0, 1 or 2: behind it a line may not, may or must end."""
+    try:
+        need_text(text)
+    except Refusal as e:
+        return [e.answer]
+    return [len(text)] + line_ends(text)
+
+
+def cover(size, number, x, y, k, left, top, wide, high, face):
+    """0; how dark each pixel is, row by row."""
+    try:
+        need_range(size, 1, MOST_SIZE)
+        need_range(number, 0, MOST_HANDED_OVER)
+        need_range(k, 0, MOST_HALVINGS)
+        for length in (x, y):
+            need_range(length, -MOST_LENGTH, MOST_LENGTH)
+        for place in (left, top):
+            need_range(place, -MOST_PIXELS_AWAY, MOST_PIXELS_AWAY)
+        for many in (wide, high):
+            need_range(many, 1, MOST_PIXELS_WIDE)
+        told = told_font(face)
+        outline = letter_in(told, number).outline
+    except Refusal as e:
+        return [e.answer]
+    return [0] + outline_darkness(outline, told.units, size, x, y, k, left, top, wide, high)
