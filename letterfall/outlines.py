@@ -47,3 +47,16 @@ def placed_rings(outline, k, size, fine, x, y):
     for ring in rings_of(outline, k):
         rings.append([(x * fine + across * size, y * fine - up * size) for across, up in ring])
     return rings
+
+
+def outline_box(outline, units, size, k):
+    """Left, top, right and bottom of the pixels in which its points at 0, 0 lie; right and bottom are behind them."""
+    fine = fineness(units, k)
+    columns = []
+    rows = []
+    for ring in placed_rings(outline, k, size, fine, 0, 0):
+        columns.extend([point[0] // (STEPS * fine) for point in ring])
+        rows.extend([point[1] // (STEPS * fine) for point in ring])
+    if not columns:
+        return [0, 0, 0, 0]
+    return [min(columns), min(rows), max(columns) + 1, max(rows) + 1]

@@ -4,6 +4,7 @@ from letterfall.codepoints import is_code_point, is_text
 from letterfall.darkness import outline_darkness
 from letterfall.fonttext import read_font
 from letterfall.lineends import line_ends
+from letterfall.outlines import outline_box
 from letterfall.refusals import NoSuchLetter, OutOfRange, Refusal
 from letterfall.seen import text_seen
 from letterfall.shaping import shaped
@@ -37,6 +38,12 @@ def need_stretch(start, to, text):
     need_range(start, 0, to)
     if LINE_FEED in text[start:to][:-1]:
         raise OutOfRange()
+
+
+def need_drawing(size, number, k):
+    need_range(size, 1, MOST_SIZE)
+    need_range(number, 0, MOST_HANDED_OVER)
+    need_range(k, 0, MOST_HALVINGS)
 
 
 def told_font(face):
@@ -128,9 +135,7 @@ def breaks(text):
 def cover(size, number, x, y, k, left, top, wide, high, face):
     """0; how dark each pixel is, row by row."""
     try:
-        need_range(size, 1, MOST_SIZE)
-        need_range(number, 0, MOST_HANDED_OVER)
-        need_range(k, 0, MOST_HALVINGS)
+        need_drawing(size, number, k)
         for length in (x, y):
             need_range(length, -MOST_LENGTH, MOST_LENGTH)
         for place in (left, top):
@@ -142,3 +147,14 @@ def cover(size, number, x, y, k, left, top, wide, high, face):
     except Refusal as e:
         return [e.answer]
     return [0] + outline_darkness(outline, told.units, size, x, y, k, left, top, wide, high)
+
+
+def box(size, number, k, face):
+    """0; left, top, right, bottom of the pixels in which the points of a letter's outline lie."""
+    try:
+        need_drawing(size, number, k)
+        told = told_font(face)
+        outline = letter_in(told, number).outline
+    except Refusal as e:
+        return [e.answer]
+    return [0] + outline_box(outline, told.units, size, k)

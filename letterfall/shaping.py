@@ -4,7 +4,7 @@ from letterfall.classes import WITHOUT_LETTERS, classes_of
 from letterfall.seen import order_seen
 from letterfall.ways import levels_of
 
-# Signs that open and close: which of the two a sign is depends on the way it is read.
+# Brackets: which of its two a sign is depends on the way it is read.
 EXCHANGED = {40: 41, 41: 40, 60: 62, 62: 60, 91: 93, 93: 91, 123: 125, 125: 123}
 
 

@@ -84,3 +84,8 @@ def mixed(names, many, length):
             one.append(names[(seed >> 12) % len(names)])
         found.append(one)
     return found
+
+
+def drawn(outline, units=64):
+    """A font of one letter; at size 64, with 64 units, a unit is a step."""
+    return f"font {units} 0 0 0\nletter a 1\n" + "".join([line.strip() + "\n" for line in outline.split(",")])

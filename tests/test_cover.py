@@ -4,13 +4,8 @@ import time
 import unittest
 
 from letterfall.page import cover
-from tests.helper import FULL, HEAD, ONE, bytes_of, mixed, wrong
+from tests.helper import FULL, HEAD, ONE, bytes_of, drawn, mixed, wrong
 from tests.slow_cover import slow_cover
-
-
-def drawn(outline, units=64):
-    """A font of one letter; at size 64, with 64 units, a unit is a step."""
-    return f"font {units} 0 0 0\nletter a 1\n" + "".join([line.strip() + "\n" for line in outline.split(",")])
 
 
 def ring(*points):
