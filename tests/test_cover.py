@@ -2,6 +2,7 @@
 
 import time
 import unittest
+from fractions import Fraction
 
 from letterfall.page import cover
 from tests.helper import FULL, HEAD, ONE, bytes_of, drawn, mixed, wrong
@@ -117,6 +118,21 @@ class Squares(CoverCase):
         for left, top in ((-1, -1), (1, -1), (0, 0), (0, -2), (-1024, -1), (1024, -1), (0, -1024), (0, 1024),
                           (1, 1), (-1, -2)):
             self.answers(block(0, 0, 64, 64), [0], left=left, top=top)
+
+    def test_one_step_beyond_a_side(self):
+        self.answers(block(0, -1, 64, 64), [255, 4], top=-1, high=2)
+        self.answers(block(0, -64, 64, 1), [4, 255], top=-1, high=2)
+        self.answers(block(-1, 0, 64, 64), [4, 255], left=-1, top=-1, wide=2)
+        self.answers(block(0, 0, 65, 64), [255, 4], top=-1, wide=2)
+
+    def test_one_step_beside_a_side_without_smaller_units(self):
+        for outline, wanted in (
+                (block(0, -1, 64, 64), [0, 255, 0, 0, 4, 0]), (block(0, 1, 64, 64), [0, 251, 0, 0, 0, 0]),
+                (block(0, -64, 64, 1), [0, 4, 0, 0, 255, 0]), (block(0, -64, 64, -1), [0, 0, 0, 0, 251, 0]),
+                (block(-1, 0, 64, 64), [4, 255, 0, 0, 0, 0]), (block(1, 0, 64, 64), [0, 251, 0, 0, 0, 0]),
+                (block(0, 0, 65, 64), [0, 255, 4, 0, 0, 0]), (block(0, 0, 63, 64), [0, 251, 0, 0, 0, 0])):
+            found = self.cover(drawn(outline, units=1), size=1, left=-1, top=-1, wide=3, high=2)
+            self.assertEqual(found, [0] + wanted, outline)
 
     def test_row_by_row(self):
         outline = block(0, -64, 64, 0) + "," + block(128, -96, 192, -64)
@@ -235,6 +251,60 @@ class Slanted(CoverCase):
             face = drawn(ring(*zip(coordinates[0::2], coordinates[1::2])), units=1 + number * 500)
             told = (65536 - number * 1000, 0, 5 * number, -7 * number, number % 5, -2, -2, 4, 4)
             self.assertEqual(cover(*told, bytes_of(face)), slow_cover(*told, face), face)
+
+
+def turned_all_ways(rings):
+    """The rings in a pixel from 0 0 to 64 64, turned and mirrored in all ways, leftwards and rightwards."""
+    for swapped in (False, True):
+        for across in (False, True):
+            for up in (False, True):
+                found = []
+                for points in rings:
+                    points = [(y, x) if swapped else (x, y) for x, y in points]
+                    found.append([(64 - x if across else x, 64 - y if up else y) for x, y in points])
+                yield found
+                yield [points[::-1] for points in found]
+
+
+class Exactly(CoverCase):
+    # Triangles of which a slanted side is cut at 64 0: twice the area before it is 9 high / wide, so that
+    # each of these lists comes to whole numbers, but none of its triangles does.
+    LISTS = (
+        ((4, 1), (4, 3)),
+        ((5, 1), (5, 4)),
+        ((5, 2), (5, 3), (7, 1), (7, 6)),
+        ((10, 1), (10, 9), (8, 3), (8, 5), (4, 1), (4, 3)),
+        ((11, 5), (11, 6), (11, 1), (11, 10), (7, 2), (7, 5), (10, 3), (10, 7)),
+        ((6, 1), (4, 1), (4, 1)),
+        ((6, 1), (4, 5), (8, 2)),
+        ((5, 1), (5, 1), (5, 3)),
+        ((7, 1), (7, 2), (7, 4), (11, 2), (11, 3), (11, 6)),
+    )
+
+    def rings_of(self, triangles, twice):
+        """The triangles, and what twice the area lacks without them."""
+        rings = []
+        exact = Fraction(0)
+        for wide, high in triangles:
+            rings.append([(61, 10), (61 + wide, 10), (61 + wide, 10 + high)])
+            exact += Fraction(9 * high, wide)
+        self.assertEqual(exact.denominator, 1)
+        rest = twice - int(exact)
+        rings.append([(0, 0), (32, 0), (32, rest // 64), (0, rest // 64)])
+        rings.append([(0, 0), (rest % 64, 0), (rest % 64, 1)])
+        return rings
+
+    def test_at_one_half_and_just_below(self):
+        for triangles in self.LISTS:
+            for twice, wanted in ((4095, 127), (4096, 128)):
+                for rings in turned_all_ways(self.rings_of(triangles, twice)):
+                    outline = ",".join([ring(*points) for points in rings])
+                    self.answers(outline, [wanted], top=-1)
+                    self.answers(outline, [wanted], k=1, top=-1)
+                    # A unit is a step here too, but the only one.
+                    self.assertEqual(self.cover(drawn(outline, units=1), size=1, top=-1), [0, wanted])
+                    found = self.cover(drawn(outline), left=-1, top=-2, wide=3, high=3)
+                    self.assertEqual(found[5], wanted)
 
 
 class Curves(CoverCase):
